@@ -1,0 +1,1 @@
+"""The first bad change in a history that branches."""
