@@ -1,4 +1,4 @@
-"""Who may still be the culprit, by the change a search began with and by its marks."""
+"""What the marks say: who may still be the culprit, and which changes can be tried."""
 
 GOOD = 0
 BAD = 1
@@ -24,3 +24,7 @@ def those_left(history, bad, marks):
     # The change that the search began with says just what a mark as bad would say.
     known = [(bad, BAD)] + marks
     return [change for change in range(history.count()) if agrees_with_all(history, change, known)]
+
+
+def those_to_try(history, marks):
+    return [change for change in range(history.count()) if (change, SKIPPED) not in marks]

@@ -7,9 +7,14 @@ COUNT = 1
 BEFORE = 2
 START = 3
 MARK = 4
+UNDO = 5
+LEFT = 6
+LIST = 7
+NEXT = 8
+SPLIT = 9
 
 # By a call's number, how many numbers the call takes up; add is not here, for its row has no fixed length.
-LENGTHS = {1: 1, 2: 3, 3: 2, 4: 3, 5: 1}
+LENGTHS = {1: 1, 2: 3, 3: 2, 4: 3, 5: 1, 6: 1, 7: 1, 8: 1, 9: 2, 10: 1}
 
 
 def call_length(calls, at):
@@ -18,7 +23,7 @@ def call_length(calls, at):
     return LENGTHS[calls[at]]
 
 
-def answer(session, call):
+def one_number(session, call):
     number = call[0]
     if number == ADD:
         return session.add(call[2:])
@@ -30,8 +35,22 @@ def answer(session, call):
         return session.start(call[1])
     if number == MARK:
         return session.mark(call[1], call[2])
-    # call_length knows no call but these, so it is undo.
-    return session.undo()
+    if number == UNDO:
+        return session.undo()
+    if number == LEFT:
+        return session.left()
+    if number == NEXT:
+        return session.next_try()
+    if number == SPLIT:
+        return session.split(call[1])
+    # call_length knows no call but these, so it is rest.
+    return session.rest()
+
+
+def answer(session, call):
+    if call[0] == LIST:
+        return session.listed()
+    return [one_number(session, call)]
 
 
 def answers(calls):
@@ -40,6 +59,8 @@ def answers(calls):
     at = 0
     while at < len(calls):
         length = call_length(calls, at)
-        given.extend([1, answer(session, calls[at:at + length])])
+        row = answer(session, calls[at:at + length])
+        given.append(len(row))
+        given.extend(row)
         at += length
     return given

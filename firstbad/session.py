@@ -1,7 +1,8 @@
 """The calls on one history and its search: each gives back its answer, or its refusal as a number below 0."""
 
 from firstbad.history import History
-from firstbad.left import SKIPPED, those_left
+from firstbad.left import SKIPPED, those_left, those_to_try
+from firstbad.tries import best_try, those_before, tries_at_worst
 
 MOST_PARENTS = 4
 MOST_CHANGES = 512
@@ -11,6 +12,8 @@ UNKNOWN = -1
 FULL = -2
 NO_SEARCH = -3
 NOBODY_LEFT = -4
+FOUND = -6
+NOT_PARTED = -7
 
 
 class Session:
@@ -40,7 +43,7 @@ class Session:
             return UNKNOWN
         self.bad = bad
         self.marks = []
-        return len(those_left(self.history, bad, []))
+        return self.left()
 
     def mark(self, change, kind):
         if not self.history.has(change) or kind > SKIPPED:
@@ -63,3 +66,38 @@ class Session:
             return 0
         self.marks.pop()
         return 1
+
+    def all_left(self):
+        return those_left(self.history, self.bad, self.marks)
+
+    def left(self):
+        if self.bad is None:
+            return NO_SEARCH
+        return len(self.all_left())
+
+    def listed(self):
+        # The one answer of several numbers, so its refusal is a row too.
+        if self.bad is None:
+            return [NO_SEARCH]
+        return self.all_left()
+
+    def next_try(self):
+        if self.bad is None:
+            return NO_SEARCH
+        remaining = self.all_left()
+        change = best_try(self.history, remaining, those_to_try(self.history, self.marks))
+        if change is not None:
+            return change
+        return FOUND if len(remaining) == 1 else NOT_PARTED
+
+    def split(self, change):
+        if not self.history.has(change):
+            return UNKNOWN
+        if self.bad is None:
+            return NO_SEARCH
+        return len(those_before(self.history, self.all_left(), change))
+
+    def rest(self):
+        if self.bad is None:
+            return NO_SEARCH
+        return tries_at_worst(self.history, self.all_left(), those_to_try(self.history, self.marks))

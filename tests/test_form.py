@@ -21,7 +21,9 @@ RULED_OUT = (
     ast.AsyncFunctionDef, ast.AsyncFor, ast.AsyncWith, ast.Import, ast.SetComp, ast.DictComp, ast.GeneratorExp,
     ast.NamedExpr, ast.Starred, ast.Div, ast.MatMult, ast.AnnAssign)
 
-WORDS_RULED_OUT = re.compile(r"\b(type|typing|enum|Enum|Generic|Protocol|ABC|namedtuple)\b|dataclass|overload")
+WORDS_RULED_OUT = re.compile(
+    r"\b(type|typing|typing_extensions|enum|Enum|IntEnum|StrEnum|Flag|IntFlag|Generic|Protocol|ABC|ABCMeta|namedtuple|"
+    r"NamedTuple|TypedDict|TYPE_CHECKING|abstractmethod)\b|dataclass|overload|contextmanager")
 
 
 def tree_of(path):
@@ -92,6 +94,35 @@ class FormTest(unittest.TestCase):
                 if isinstance(node, ast.Name) and hasattr(builtins, node.id):
                     self.assertIn(node.id, OWN_NAMES, path)
                     self.assertIsInstance(node.ctx, ast.Load, path)
+
+    def test_no_parameter_or_method_is_called_like_a_built_in_name(self):
+        for path in FILES:
+            for node in ast.walk(tree_of(path)):
+                if isinstance(node, ast.arg):
+                    self.assertFalse(hasattr(builtins, node.arg), path)
+                if isinstance(node, ast.FunctionDef):
+                    self.assertNotIn(node.name, OWN_NAMES, path)
+
+    def test_no_parameter_or_local_is_called_like_an_import_or_class_of_its_file(self):
+        for path in FILES:
+            tree = tree_of(path)
+            taken = {name.name for node in tree.body if isinstance(node, ast.ImportFrom) for name in node.names}
+            taken |= {node.name for node in tree.body if isinstance(node, ast.ClassDef)}
+            for node in ast.walk(tree):
+                if isinstance(node, ast.arg):
+                    self.assertNotIn(node.arg, taken, path)
+                if isinstance(node, ast.Name) and isinstance(node.ctx, ast.Store):
+                    self.assertNotIn(node.id, taken, path)
+
+    def test_no_name_is_a_method_and_a_value(self):
+        methods, values = set(), set()
+        for path in FILES:
+            for node in ast.walk(tree_of(path)):
+                if isinstance(node, ast.ClassDef):
+                    methods |= {part.name for part in node.body if isinstance(part, ast.FunctionDef)}
+                if isinstance(node, ast.Attribute) and isinstance(node.ctx, ast.Store):
+                    values.add(node.attr)
+        self.assertEqual(methods & values, set())
 
 
 if __name__ == "__main__":
